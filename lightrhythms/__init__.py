@@ -1,0 +1,1 @@
+"""Rhythms of lights: read, judged, and brought to one form."""
