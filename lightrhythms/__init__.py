@@ -1,1 +1,1 @@
-"""Rhythms of lights: read, judged, and brought to one form."""
+"""Rhythms of lights: read, judged, brought to one form, and called by their names."""

@@ -41,6 +41,11 @@ def one_round(runs):
     return runs
 
 
+def beginnings_of(row):
+    """What goes round, begun at each of its places."""
+    return [row[place:] + row[:place] for place in range(len(row))]
+
+
 def light_of(phases):
     """The light that a rhythm of these phases is."""
     runs = joined(phases)
@@ -52,7 +57,7 @@ def light_of(phases):
     turn = one_round(runs)
     period = span_of(turn)
     # Phases are tuples of colour and length, so lists of them compare as forms do.
-    beginnings = [turn[place:] + turn[:place] for place in range(len(turn))]
+    beginnings = beginnings_of(turn)
     form = min(beginnings)
     before = turn[:beginnings.index(form)]
     return Light(form, period, (lead + span_of(before)) % period)

@@ -4,6 +4,8 @@ A phase is a tuple: the colour's number (0 dark, 1 white, 2 red, 3 green,
 4 yellow), then how many tenths it lasts.
 """
 
+DARK = 0
+
 # The place of a byte here is its colour's number.
 COLOUR_BYTES = (45, 87, 82, 71, 89)
 BLANK = 32

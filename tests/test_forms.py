@@ -3,19 +3,9 @@
 import itertools
 import unittest
 
-from tests.told import FORM, SAME, SHIFT, ask, colours, form_text, plain_form, plain_shift, small_rhythms
-
-
-def told_otherwise(text):
-    """Texts of one light: begun at every tenth of it, its first phase then told as two, once and twice over."""
-    tenths = colours(text)
-    for begin in range(len(tenths)):
-        turned = tenths[begin:] + tenths[:begin]
-        runs = [f"{colour}{len(list(run))}" for colour, run in itertools.groupby(turned)]
-        yield " ".join(runs)
-        yield " ".join(runs * 2)
-        if int(runs[0][1:]) > 1:
-            yield " ".join([runs[0][0] + "1", f"{runs[0][0]}{int(runs[0][1:]) - 1}"] + runs[1:])
+from tests.told import (
+    FORM, SAME, SHIFT, ask, colours, form_text, plain_form, plain_shift, small_rhythms, told_otherwise,
+)
 
 
 class Forms(unittest.TestCase):

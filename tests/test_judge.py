@@ -3,7 +3,13 @@
 import re
 import unittest
 
-from tests.told import FORM, JUDGE, SAME, SHIFT, ask, as_bytes
+from tests.told import AT, CHARACTER, FORM, JUDGE, NEXT, PERIOD, SAME, SHIFT, ask, as_bytes
+
+# Every call of one text, the times good ones, one at the bound and two too late: what a text is refused for comes first.
+OF_ONE_TEXT = (
+    (JUDGE,), (FORM,), (PERIOD,), (CHARACTER,), (AT, 0), (AT, 1000000), (AT, 1000001), (AT, 4294967295),
+    (NEXT, 0), (NEXT, 1000000), (NEXT, 1000001), (NEXT, 4294967295),
+)
 
 
 def plain_judge(text):
@@ -47,8 +53,8 @@ class Rhythms(unittest.TestCase):
 
 class Faults(unittest.TestCase):
     def fault(self, text, number):
-        for call in (JUDGE, FORM):
-            self.assertEqual(ask(call, text), [-6, number], text)
+        for call in OF_ONE_TEXT:
+            self.assertEqual(ask(*call, text), [-6, number], (call, text))
 
     def test_no_bytes(self):
         self.fault("", 0)
@@ -152,8 +158,8 @@ class ManyBytes(unittest.TestCase):
 
     def test_1025_bytes_are_refused(self):
         for text in ("W" + "1" * 1024, "W1 " * 341 + "W1", " " * 1025, "x" * 1025, "W5 " + "\xff" * 1997):
-            for call in (JUDGE, FORM):
-                self.assertEqual(ask(call, text), [-2], text)
+            for call in OF_ONE_TEXT:
+                self.assertEqual(ask(*call, text), [-2], (call, text))
 
 
 class TwoTexts(unittest.TestCase):

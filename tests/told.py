@@ -5,35 +5,49 @@ import math
 
 from lightrhythms.lights import answers
 
-JUDGE, FORM, SAME, SHIFT = 0, 1, 2, 3
+JUDGE, FORM, SAME, SHIFT, AT, NEXT, PERIOD, CHARACTER = range(8)
 LETTERS = "-WRGY"
+
+MORSE = dict(word.split("=") for word in (
+    "A=.- B=-... C=-.-. D=-.. E=. F=..-. G=--. H=.... I=.. J=.--- K=-.- L=.-.. M=-- N=-. O=--- P=.--. Q=--.- R=.-. "
+    "S=... T=- U=..- V=...- W=.-- X=-..- Y=-.-- Z=--.."
+).split())
 
 
 def as_bytes(text):
     return list(text.encode("latin-1")) if isinstance(text, str) else list(text)
 
 
-def call(number, *texts):
+def call(number, *handed):
+    """One call's numbers: a whole number as it is, a text behind its length."""
     numbers = [number]
-    for text in texts:
-        numbers += [len(as_bytes(text))] + as_bytes(text)
+    for given in handed:
+        numbers += [given] if isinstance(given, int) else [len(as_bytes(given))] + as_bytes(given)
     return numbers
 
 
-def ask(number, *texts):
+def ask(number, *handed):
     """The numbers answered to one call, without their count, which must be right."""
-    given = answers(call(number, *texts))
+    given = answers(call(number, *handed))
     if given[0] != len(given) - 1:
         raise AssertionError(f"count {given[0]} ahead of {given[1:]}")
     return given[1:]
 
 
-def form_text(text):
-    """The text that form answers, with its length, which must be right."""
-    given = ask(FORM, text)
+def text_told(number, text):
+    """The text that form or character answers, without its length, which must be right."""
+    given = ask(number, text)
     if given[0] != len(given) - 1:
         raise AssertionError(f"length {given[0]} ahead of {given[1:]}")
     return bytes(given[1:]).decode("ascii")
+
+
+def form_text(text):
+    return text_told(FORM, text)
+
+
+def name(text):
+    return text_told(CHARACTER, text)
 
 
 def colours(text):
@@ -41,12 +55,35 @@ def colours(text):
     return "".join(word[0] * int(word[1:]) for word in text.split(" "))
 
 
+def plain_period(tenths):
+    """The least time above 0 behind which all colours come again, by trying each; 0 if they never change."""
+    if len(set(tenths)) == 1:
+        return 0
+    return next(n for n in range(1, len(tenths) + 1) if tenths[n:] + tenths[:n] == tenths)
+
+
+def runs_of(tenths):
+    """Texts of the phases that these tenths are, in order."""
+    return [f"{colour}{len(list(run))}" for colour, run in itertools.groupby(tenths)]
+
+
+def told_otherwise(text):
+    """Texts of one light: begun at every tenth of it, its first phase then told as two, once and twice over."""
+    tenths = colours(text)
+    for begin in range(len(tenths)):
+        runs = runs_of(tenths[begin:] + tenths[:begin])
+        yield " ".join(runs)
+        yield " ".join(runs * 2)
+        if int(runs[0][1:]) > 1:
+            yield " ".join([runs[0][0] + "1", f"{runs[0][0]}{int(runs[0][1:]) - 1}"] + runs[1:])
+
+
 def plain_form(text):
     """The one form's text, by trying every period and every beginning."""
     round_ = colours(text)
     if len(set(round_)) == 1:
         return round_[0] + "1"
-    period = next(n for n in range(1, len(round_) + 1) if round_[n:] + round_[:n] == round_)
+    period = plain_period(round_)
     told = []
     for begin in range(period):
         turned = (round_[begin:] + round_[:begin])[:period]
